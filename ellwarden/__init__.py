@@ -1,0 +1,1 @@
+"""Ellwarden: measuring procedures told over certificates, readings and late news."""
