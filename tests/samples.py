@@ -1,0 +1,100 @@
+"""Charters and parts of charters that several tests share."""
+
+from ellwarden.charters import Charter
+
+CALIPER = ("caliper", "length", 0, 9, 200, 130, -300, 300, 5, 5, 40, (5,))
+BORE = ("bore", "length", 500, 1900, 0, 0)
+MM = ("mm", (1,), (1000, 1))
+
+
+def sized(name):
+    return ("size", name)
+
+
+def grains(number, unit="length"):
+    """An amount of an integer or a ratio."""
+    return ("amount", number if isinstance(number, tuple) else (number, 1), unit)
+
+
+FITONE = (
+    "fitone",
+    (("hole", "length"),),
+    (("tool", "length"),),
+    (
+        ("read", "hole", "tool"),
+        ("choose", sized("hole"), grains(1, "mm"), grains((6, 5), "mm"), (), (), (("read", "hole", "tool"),)),
+        ("judge", "small", sized("hole"), grains(1, "mm"), grains((6, 5), "mm")),
+        ("tell", "hole", sized("hole"), "mm"),
+    ),
+)
+
+PARTS = {
+    "days": 5,
+    "bases": ("length",),
+    "units": (MM,),
+    "devices": (CALIPER,),
+    "features": (BORE,),
+    "roles": (("gauge", "length"),),
+    "jobs": ("fit",),
+    "procedures": (FITONE,),
+}
+
+# The example of the document.
+LINES = """days 5
+base length
+unit mm length 1000
+device caliper length 0 9 200 130 -300 300 5 5 40 5
+feature bore length 500 1900 0 0
+role gauge length
+job fit
+procedure fitone
+takes hole length
+uses tool length
+read hole by tool
+choose size hole good 1 mm bad 6/5 mm
+open
+read hole by tool
+end
+judge small size hole good 1 mm bad 6/5 mm
+tell hole size hole in mm
+end""".splitlines()
+
+
+def charter(**parts):
+    """The charter of the example, with parts exchanged."""
+    return Charter(**{**PARTS, **parts})
+
+
+def device(name="dial", base="length", low=0, high=9, step=10, slack=10, least=-50, greatest=50, fall=0, rise=0, steep=0, cuts=()):
+    return (name, base, low, high, step, slack, least, greatest, fall, rise, steep, cuts)
+
+
+def feature(name="slot", base="length", least=0, greatest=100, fall=0, rise=0):
+    return (name, base, least, greatest, fall, rise)
+
+
+# A house with two bases, for expressions.
+HOUSE = {
+    "days": 3,
+    "bases": ("length", "time"),
+    "units": (("mm", (1, 0), (10, 1)), ("s", (0, 1), (3, 2)), ("ratio", (0, 0), (1, 100)), ("peak", (9, 0), (1, 1))),
+    "devices": (
+        device("dial", cuts=(4, 7)),
+        device("ring"),
+        device("clock", "time", least=-5, greatest=5, cuts=(3,)),
+    ),
+    "features": (feature("bore"), feature("slot"), feature("beat", "time")),
+    "roles": (("gauge", "length"), ("timer", "time")),
+}
+
+
+def house(*procedures, **parts):
+    """A charter of two bases with these procedures."""
+    return Charter(**{**HOUSE, "procedures": procedures, **parts})
+
+
+def procedure(*body, name="main", features=(("one", "length"), ("two", "length"), ("beat", "time")), roles=None):
+    """A procedure with parameters of both bases."""
+    if roles is None:
+        roles = (("tool", "length"), ("timer", "time"))
+    return (name, features, roles, body)
