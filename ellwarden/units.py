@@ -92,11 +92,10 @@ class Units:
             raise Unknown(base)
         at = self.bases.index(base)
         table = []
-        for place, (name, dimension, factor) in enumerate(self.table):
+        for name, dimension, factor in self.table:
             longer = times(factor, power(ratio(many), dimension[at]))
-            if not is_factor(longer):
-                raise BadTable(place)
             table.append((name, dimension, longer))
+        # A factor that has become too long is refused where it stands in the table.
         return Units(self.bases, table)
 
     def _take(self, name, dimension, factor):

@@ -395,6 +395,8 @@ class Reading(Case):
             if part == "bases":
                 parts["units"] = (("mm", (1, 0), (1000, 1)),)
             self.assertNotEqual(made, charter(**parts), part)
+        self.assertNotEqual(Charter(days=1, bases=("length",)), Charter(days=1, bases=("length", "time")))
+        self.assertNotEqual(Charter(days=1, bases=("time", "length")), Charter(days=1, bases=("length", "time")))
         for thing in (None, 1, PARTS, tuple(made), "charter"):
             self.assertIs(made == thing, False)
 

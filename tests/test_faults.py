@@ -275,6 +275,13 @@ class TangledFaults(Case):
         self.fault((let("a", ONE), ("judge", "b", ONE, GOOD, name("a"))), 1, "tangled", "judge")
         self.fine(let("a", ("times", GOOD, grains(2, "1"))), ("judge", "b", ONE, GOOD, name("a")))
 
+    def test_offsets_are_sums(self):
+        tool, timer = offset("tool", 3), offset("timer", -4)
+        self.fine(let("a", ("plus", tool, ONE)), let("b", ("minus", GOOD, tool)), let("c", ("times", ("times", tool, timer), GOOD)))
+        self.fine(let("a", ("over", ("over", tool, timer), GOOD)), let("b", ("over", GOOD, timer)), let("c", ("over", timer, GOOD)))
+        self.in_expression(("times", ("times", tool, timer), timer), "tangled", "times")
+        self.fault((("judge", "a", ONE, tool, BAD),), 0, "tangled", "judge")
+
     def test_names_have_the_kinds_of_their_expressions(self):
         self.fault((let("a", self.PRODUCT), let("b", ("times", name("a"), ONE))), 1, "tangled", "times")
         self.fine(let("a", GOOD), let("b", ("over", self.PRODUCT, name("a"))))

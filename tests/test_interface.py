@@ -1,0 +1,93 @@
+"""The interface: the names, arguments and methods that the document lists, where it lists them."""
+
+import importlib
+import inspect
+import unittest
+
+TOLD = {
+    "names": ("WORDS", "is_name(thing)"),
+    "ratios": (
+        "ratio(n, d=1)", "is_ratio(thing)", "plus(a, b)", "minus(a, b)", "times(a, b)", "over(a, b)", "compare(a, b)", "write_ratio(a)",
+        "read_ratio(text)",
+    ),
+    "worlds": ("GROUND", "is_spot(thing)", "World(pairs)", "World.gap(a, b)", "World.keeps(link)", "higher(first, second)", "lower(first, second)"),
+    "webs": (
+        "Web(spots, links)", "Web.bound(a, b)", "Web.chain(a, b)", "Web.reaching(a, b)", "Web.bad_ring()", "Web.highest()", "Web.lowest()",
+        "Web.allows(world)", "Web.more(links)", "Web.links_from(spot)",
+    ),
+    "dims": (
+        "is_dimension(thing, many)", "multiplied(a, b)", "divided(a, b)", "base_dimension(bases, name)", "read_product(text, names)",
+        "write_product(names, exponents)",
+    ),
+    "units": (
+        "Units(bases, table=())", "Units.dimension_of(text)", "Units.factor_of(text)", "Units.one_form(text)", "Units.amount(number, text)",
+        "Units.number_in(amount, text)", "Units.finer(base, many)",
+    ),
+    "amounts": ("Amount(number, dimension)", "Amount.compared(other)", "Amount.bare(number, many)"),
+    "charters": (
+        "Charter(*, days, bases, units=(), devices=(), features=(), roles=(), jobs=(), procedures=())", "Charter.sort_of(name)",
+        "Charter.base_of(name)", "Charter.system()", "Charter.all_spots()", "Charter.own_links()", "Charter.changed(**parts)",
+    ),
+    "marks": (
+        "stretches(device)", "stretch_of(device, mark)", "has_mark(device, mark)", "reading_links(device, feature, day, mark, why)",
+        "marks_in(world, device, feature, day)",
+    ),
+    "expressions": (
+        "kind_of(charter, procedure, expression, names=())",
+        "quantity_of(charter, procedure, expression, day, features, devices, names=())", "steps_of(body)", "readings(charter, name)",
+    ),
+    "writing": ("write_expression(expression)", "write_procedure(procedure)", "write_charter(charter)"),
+}
+SIGNS = {
+    ("worlds", "World"): "getitem len iter contains eq",
+    ("webs", "Web"): "contains len iter eq add",
+    ("units", "Units"): "contains len iter eq",
+    ("amounts", "Amount"): "add sub mul floordiv neg eq",
+    ("charters", "Charter"): "getitem contains iter len eq",
+}
+
+
+class Interface(unittest.TestCase):
+    def test_names_and_arguments(self):
+        for file, entries in TOLD.items():
+            module = importlib.import_module("ellwarden." + file)
+            for entry in entries:
+                name, _, arguments = entry.partition("(")
+                thing = module
+                for part in name.split("."):
+                    self.assertIn(part, vars(thing), entry)
+                    thing = getattr(thing, part)
+                if arguments:
+                    self.assertEqual(thing.__module__, module.__name__, entry)
+                    self.assertEqual(self.arguments_of(thing, "." in name), "(" + arguments, entry)
+
+    def arguments_of(self, thing, is_method):
+        """The arguments that a caller passes; a method of a class is asked for its own object, too."""
+        told = inspect.signature(thing)
+        rows = list(told.parameters.values())
+        if is_method and rows and rows[0].name == "self":
+            rows = rows[1:]
+        return str(told.replace(parameters=rows))
+
+    def test_signs(self):
+        for (file, name), words in SIGNS.items():
+            found = vars(getattr(importlib.import_module("ellwarden." + file), name))
+            for word in words.split():
+                self.assertIn(f"__{word}__", found, name)
+
+    def test_static_methods_and_class_values(self):
+        from ellwarden.amounts import Amount
+        from ellwarden.charters import Charter
+        from ellwarden.units import Units
+        self.assertIsInstance(vars(Amount)["bare"], staticmethod)
+        self.assertEqual((Units.MOST, Charter.DAYS, Charter.SPOTS), (12, 20, 240))
+
+    def test_generators(self):
+        from ellwarden.expressions import steps_of
+        from ellwarden.webs import Web
+        self.assertTrue(inspect.isgeneratorfunction(steps_of))
+        self.assertTrue(inspect.isgeneratorfunction(Web.links_from))
+
+
+if __name__ == "__main__":
+    unittest.main()
