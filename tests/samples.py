@@ -1,4 +1,6 @@
-"""Charters and parts of charters that several tests share."""
+"""Charters, parts of charters, and what is looked for in errors, as several tests share it."""
+
+import unittest
 
 from ellwarden.charters import Charter
 
@@ -98,3 +100,13 @@ def procedure(*body, name="main", features=(("one", "length"), ("two", "length")
     if roles is None:
         roles = (("tool", "length"), ("timer", "time"))
     return (name, features, roles, body)
+
+
+class Case(unittest.TestCase):
+    def raises(self, error, call, **kept):
+        """The error that a call raises, with what it keeps."""
+        with self.assertRaises(error) as caught:
+            call()
+        for name, value in kept.items():
+            self.assertEqual(getattr(caught.exception, name), value)
+        return caught.exception

@@ -4,6 +4,7 @@ import unittest
 
 from ellwarden.amounts import Amount
 from ellwarden.errors import Mixed, Nought, TooHigh
+from samples import Case
 
 LENGTH = (1, 0)
 TIME = (0, 1)
@@ -13,16 +14,10 @@ def amount(n, d=1, dimension=LENGTH):
     return Amount((n, d), dimension)
 
 
-class Amounts(unittest.TestCase):
+class Amounts(Case):
     def told(self, made, number, dimension):
         self.assertIsInstance(made, Amount)
         self.assertEqual((made.number, made.dimension), (number, dimension))
-
-    def raises(self, error, call, **kept):
-        with self.assertRaises(error) as caught:
-            call()
-        for name, value in kept.items():
-            self.assertEqual(getattr(caught.exception, name), value)
 
     def test_attributes(self):
         self.told(Amount((3, 2), (1, -2)), (3, 2), (1, -2))

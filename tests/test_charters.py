@@ -5,7 +5,7 @@ import unittest
 from ellwarden.charters import Charter
 from ellwarden.errors import BadCharter, BadStep, Ring, TooLong, TooMany, Twice, Unknown
 from ellwarden.units import Units
-from samples import BORE, CALIPER, FITONE, MM, PARTS, charter, device, feature
+from samples import BORE, CALIPER, FITONE, MM, PARTS, Case, charter, device, feature
 
 LETTERS = "abcdefghijklmnop"
 ORDER = ("days", "bases", "units", "devices", "features", "roles", "jobs", "procedures")
@@ -19,13 +19,7 @@ def exchanged(entry, place, item):
     return entry[:place] + (item,) + entry[place + 1:]
 
 
-class Case(unittest.TestCase):
-    def raises(self, error, call, **kept):
-        with self.assertRaises(error) as caught:
-            call()
-        for name, value in kept.items():
-            self.assertEqual(getattr(caught.exception, name), value)
-
+class CharterCase(Case):
     def refused(self, part, place, **parts):
         with self.assertRaises(BadCharter, msg=repr(parts)) as caught:
             charter(**parts)
@@ -38,7 +32,7 @@ class Case(unittest.TestCase):
         self.refused(part, 0, **{part: [entry, None]})
 
 
-class DaysAndBases(Case):
+class DaysAndBases(CharterCase):
     def test_days(self):
         self.assertEqual(Charter.DAYS, 20)
         for days in (1, 2, 20):
@@ -64,7 +58,7 @@ class DaysAndBases(Case):
                 self.raises(TooMany, lambda parts=parts: Charter(**parts), kind="bases")
 
 
-class Rows(Case):
+class Rows(CharterCase):
     def test_a_part_that_is_no_row(self):
         for part in ORDER[1:]:
             for thing in NO_ROWS:
@@ -92,7 +86,7 @@ class Rows(Case):
                 self.entry_refused(part, exchanged(PARTS[part][0], 1, base))
 
 
-class UnitForms(Case):
+class UnitForms(CharterCase):
     def test_dimensions_and_factors(self):
         for dimension in ((), (1, 0), [1], (10,), (-10,), (True,), ("1",), (1.0,), None, 1, "length"):
             self.entry_refused("units", ("inch", dimension, (1, 1)))
@@ -109,7 +103,7 @@ class UnitForms(Case):
         self.assertEqual(len(charter(bases=("length", "time"), units=[("mm", (1, 0), (1, 1))]).units), 1)
 
 
-class DeviceForms(Case):
+class DeviceForms(CharterCase):
     # The places: name 0, base 1, low 2, high 3, step 4, slack 5, least 6, greatest 7, fall 8, rise 9, steep 10, cuts 11.
 
     def taken(self, entry):
@@ -165,7 +159,7 @@ class DeviceForms(Case):
             self.entry_refused("devices", device(low=0, high=9, cuts=cuts))
 
 
-class FeatureForms(Case):
+class FeatureForms(CharterCase):
     def test_integers(self):
         for place in range(2, 6):
             for thing in NO_SIZES:
@@ -183,7 +177,7 @@ class FeatureForms(Case):
             self.entry_refused("features", entry)
 
 
-class Numbers(Case):
+class Numbers(CharterCase):
     MOST = {"units": 12, "devices": 6, "features": 6, "roles": 6, "jobs": 6, "procedures": 8}
 
     def entries(self, part, many):
@@ -242,7 +236,7 @@ class Numbers(Case):
         self.raises(TooMany, lambda: charter(days=20, devices=things, features=()), kind="spot")
 
 
-class Names(Case):
+class Names(CharterCase):
     def test_within_a_part(self):
         for part in ORDER[1:]:
             if part == "bases":
@@ -277,7 +271,7 @@ class Names(Case):
         self.assertEqual(made["work"][3], body)
 
 
-class Order(Case):
+class Order(CharterCase):
     """Each fault is told ahead of all that come behind it."""
 
     LOOP = ("loop", (), (), (("call", "loop", (), ()),))
@@ -311,7 +305,7 @@ class Order(Case):
         self.assertEqual(charter(**parts).procedures, (EMPTY,))
 
 
-class Reading(Case):
+class Reading(CharterCase):
     def test_attributes_and_rows(self):
         for kind in (tuple, list):
             parts = {part: kind(row) if part != "days" else row for part, row in PARTS.items()}
@@ -401,7 +395,7 @@ class Reading(Case):
             self.assertIs(made == thing, False)
 
 
-class Changing(Case):
+class Changing(CharterCase):
     def test_changed(self):
         made = charter()
         changed = made.changed(days=3, jobs=["make", "fit"])

@@ -6,6 +6,7 @@ from fractions import Fraction
 from ellwarden.amounts import Amount
 from ellwarden.errors import BadTable, BadUnit, Mixed, TooMany, Twice, Unknown
 from ellwarden.units import Units
+from samples import Case
 
 BASES = ("length", "time")
 TABLE = (
@@ -17,14 +18,6 @@ UNITS = Units(BASES, TABLE)
 
 def many_units(many):
     return [("unit" + "abcdefghijklmnop"[number], (1, 0), (number + 1, 1)) for number in range(many)]
-
-
-class Case(unittest.TestCase):
-    def raises(self, error, call, **kept):
-        with self.assertRaises(error) as caught:
-            call()
-        for name, value in kept.items():
-            self.assertEqual(getattr(caught.exception, name), value)
 
 
 class Making(Case):

@@ -6,6 +6,7 @@ import unittest
 from ellwarden.errors import BadLink, BadSpot, Clash, Loose, NoSpot
 from ellwarden.webs import Web
 from ellwarden.worlds import GROUND, World, higher, lower
+from samples import Case
 
 A = ("a", 0, 0)
 B = ("b", 0, 0)
@@ -50,14 +51,7 @@ def all_bounds(web):
     return least
 
 
-class Case(unittest.TestCase):
-    def raises(self, error, call, **kept):
-        with self.assertRaises(error) as caught:
-            call()
-        for name, value in kept.items():
-            self.assertEqual(getattr(caught.exception, name), value)
-        return caught.exception
-
+class WebCase(Case):
     def is_ring(self, web, ring):
         """A ring of links of the web with a bound below 0."""
         self.assertIsInstance(ring, tuple)
@@ -93,7 +87,7 @@ class Case(unittest.TestCase):
         self.assertEqual(world[GROUND], (0, 1))
 
 
-class BadSpots(Case):
+class BadSpots(WebCase):
     def refused(self, spots, place, links=()):
         self.raises(BadSpot, lambda: Web(spots, links), place=place)
 
@@ -126,7 +120,7 @@ class BadSpots(Case):
         self.refused([GROUND, A, None], 2, [None])
 
 
-class BadLinks(Case):
+class BadLinks(WebCase):
     FAULTS = (
         None, (), "link", 5, [GROUND, A, 1, WHY], (GROUND, A, 1), (GROUND, A, 1, WHY, 1), (GROUND, GROUND, 1, WHY),
         (A, A, 0, WHY), (GROUND, C, 1, WHY), (C, GROUND, 1, WHY), (["ground", 0, 0], A, 1, WHY), (GROUND, ["a", 0, 0], 1, WHY),
@@ -163,7 +157,7 @@ class BadLinks(Case):
             self.assertEqual(len(web), 2)
 
 
-class LooseSpots(Case):
+class LooseSpots(WebCase):
     def test_no_chain_to_a_spot_or_from_it(self):
         self.raises(Loose, lambda: Web([GROUND, A], []), spot=A)
         self.raises(Loose, lambda: Web([GROUND, A], tied(A, 0, 1)[:1]), spot=A)
@@ -191,7 +185,7 @@ class LooseSpots(Case):
         self.raises(Loose, lambda: Web([GROUND, C, B, A], links[1:]), spot=C)
 
 
-class Reading(Case):
+class Reading(WebCase):
     def setUp(self):
         self.links = tied(A, 0, 10) + tied(B, -5, 5) + [(A, B, -2, ("news", 1)), (A, B, -2, ("news", 1)), (A, B, 4, WHY)]
         self.web = Web([GROUND, A, B], self.links)
@@ -260,7 +254,7 @@ class Reading(Case):
         self.assertIs(Web([GROUND], []).allows(World([(GROUND, (0, 1))])), True)
 
 
-class Bounds(Case):
+class Bounds(WebCase):
     def test_a_ground_alone(self):
         web = Web([GROUND], [])
         self.assertEqual(web.spots, (GROUND,))
@@ -362,7 +356,7 @@ class Bounds(Case):
         self.is_ring(clash, clash.bad_ring())
 
 
-class Clashes(Case):
+class Clashes(WebCase):
     def setUp(self):
         self.links = tied(A, 0, 10) + tied(B, -5, 5) + [(A, B, -9, ("news", 1)), (B, A, 8, ("news", 1))]
         self.web = Web([GROUND, A, B], self.links)
@@ -426,7 +420,7 @@ class Clashes(Case):
         self.assertEqual(list(web), self.links)
 
 
-class Joining(Case):
+class Joining(WebCase):
     def test_more(self):
         web = Web([GROUND, A, B], tied(A, 0, 10) + tied(B, -5, 5))
         before = (web.spots, web.links, web.bound(A, B))
