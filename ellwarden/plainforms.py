@@ -1,6 +1,37 @@
 """Plain forms: tuples (terms, rest), with pairs of a spot and its factor, ascending by spots."""
 
-from ellwarden.ratios import plus, times
+from ellwarden.checks import is_tuple_of
+from ellwarden.ratios import is_ratio, plus, times
+from ellwarden.worlds import GROUND, is_spot
+
+
+def is_plain_form(thing):
+    """Whether it is a plain form of any spots other than the ground."""
+    if not is_tuple_of(thing, 2):
+        return False
+    terms, rest = thing
+    if not isinstance(terms, tuple) or not all([_is_term(term) for term in terms]):
+        return False
+    for place in range(1, len(terms)):
+        if not terms[place - 1][0] < terms[place][0]:
+            return False
+    return is_ratio(rest)
+
+
+def _is_term(thing):
+    """Whether it is a pair of a spot and its factor."""
+    if not is_tuple_of(thing, 2):
+        return False
+    spot, factor = thing
+    return is_spot(spot) and spot != GROUND and is_ratio(factor) and factor[0] != 0
+
+
+def plain_value(form, world):
+    """The value of a plain form in a world; NoSpot for the first spot that the world lacks."""
+    total = form[1]
+    for spot, factor in form[0]:
+        total = plus(total, times(factor, world[spot]))
+    return total
 
 
 def plain_form(factors, rest):

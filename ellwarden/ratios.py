@@ -1,6 +1,6 @@
 """Exact ratios, tuples (n, d) in lowest terms with d from 1 on, and their texts."""
 
-from math import gcd
+from math import gcd, lcm
 
 from ellwarden.checks import is_integer, is_tuple_of
 from ellwarden.errors import BadRatio, Nought
@@ -77,7 +77,7 @@ def read_ratio(text):
     if not isinstance(text, str):
         raise BadRatio(text)
     above, slash, below = text.partition("/")
-    if not _is_whole(above) or (slash != "" and not _is_divisor(below)):
+    if not is_whole(above, LONGEST) or (slash != "" and not _is_divisor(below)):
         raise BadRatio(text)
     told = (int(above), int(below) if slash != "" else 1)
     if not is_ratio(told):
@@ -85,20 +85,33 @@ def read_ratio(text):
     return told
 
 
-def _is_whole(text):
-    """Whether it is an integer as it is written, of at most 400 digits."""
+def is_whole(text, longest):
+    """Whether it is an integer as it is written, of at most so many digits."""
     if text == "0":
         return True
-    return _is_digits(text.removeprefix("-"))
+    return _is_digits(text.removeprefix("-"), longest)
 
 
 def _is_divisor(text):
     """Whether it is an integer from 2 on as it is written; a divisor 1 is not written."""
-    return _is_digits(text) and text != "1"
+    return _is_digits(text, LONGEST) and text != "1"
 
 
-def _is_digits(text):
-    """Whether it has 1 to 400 digits, the first one not 0."""
-    if not 1 <= len(text) <= LONGEST or text[0] == "0":
+def _is_digits(text, longest):
+    """Whether it has 1 to so many digits, the first one not 0."""
+    if not 1 <= len(text) <= longest or text[0] == "0":
         return False
     return all([sign in DIGITS for sign in text])
+
+
+def common_below(numbers):
+    """The least integer from 1 on by which all these ratios are whole when they are multiplied."""
+    many = 1
+    for _, d in numbers:
+        many = lcm(many, d)
+    return many
+
+
+def times_whole(a, many):
+    """The integer that the ratio a is when it is multiplied by many."""
+    return a[0] * (many // a[1])

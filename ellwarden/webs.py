@@ -67,12 +67,12 @@ class Web:
 
     def highest(self):
         """The world with the greatest value of each spot."""
-        self._ask_for_world()
+        self.ask_for_world()
         return self._world(self._heights)
 
     def lowest(self):
         """The world with the least value of each spot."""
-        self._ask_for_world()
+        self.ask_for_world()
         # From the ground, the other way round: these are the bounds from each spot to it.
         arrows = turned(self._arrows)
         depths, _ = heights_and_ring(arrows, ways_from(len(self.spots), arrows))
@@ -97,18 +97,25 @@ class Web:
         for number in self._ways[self._places[spot]]:
             yield self.links[number]
 
+    def bounds_from(self, a, spots):
+        """The row of the bounds from a spot to each of some spots of the web."""
+        start, _ = self._places_for(a, a)
+        weights, _ = self._from(start)
+        return [weights[self._places[spot]] for spot in spots]
+
+    def ask_for_world(self):
+        """Clash if there is no world."""
+        ring = self.bad_ring()
+        if ring is not None:
+            raise Clash(ring)
+
     def _places_for(self, a, b):
         """The places of two spots in a web with a world."""
         for spot in (a, b):
             if spot not in self:
                 raise NoSpot(spot)
-        self._ask_for_world()
+        self.ask_for_world()
         return (self._places[a], self._places[b])
-
-    def _ask_for_world(self):
-        ring = self.bad_ring()
-        if ring is not None:
-            raise Clash(ring)
 
     def _from(self, start):
         """The bounds from a place to all places, and the last links of chains with them."""
@@ -141,11 +148,12 @@ def _places_of(spots):
 def _judge_links(links, places):
     """BadLink for the first one that is no link between these spots."""
     for place, link in enumerate(links):
-        if not _is_link(link, places):
+        if not is_link(link, places):
             raise BadLink(place)
 
 
-def _is_link(link, places):
+def is_link(link, places):
+    """Whether it is a link between two of these spots; places is anything that has them."""
     if not is_tuple_of(link, 4):
         return False
     a, b, bound, why = link

@@ -110,3 +110,32 @@ class Case(unittest.TestCase):
         for name, value in kept.items():
             self.assertEqual(getattr(caught.exception, name), value)
         return caught.exception
+
+
+# A house with jobs and procedures, for books.
+FIRST = ("first", (("one", "length"),), (("tool", "length"),), (("read", "one", "tool"),))
+SECOND = ("second", (), (), ())
+
+
+def keeper(**parts):
+    """A charter whose books can have news of every kind."""
+    return house(FIRST, SECOND, **{"jobs": ("fit", "weigh"), **parts})
+
+
+# Values of kinds that are never let where a name or an integer is due.
+STRANGE = (None, True, False, 1.0, "", (), [], {}, b"bore", ("bore",), ["bore"], (1,), [1])
+
+
+def swapped(row, place, value):
+    """The tuple with another value at a place."""
+    return row[:place] + (value,) + row[place + 1:]
+
+
+def ratios(*numbers):
+    return tuple((number, 1) for number in numbers)
+
+
+def spot_form(*terms, rest=(0, 1)):
+    """A plain form of spots, each once or with a factor: ("bore", 0, 1) or (("bore", 0, 1), (2, 1))."""
+    pairs = [term if isinstance(term[0], tuple) else (term, (1, 1)) for term in terms]
+    return (tuple(sorted(pairs)), rest)
