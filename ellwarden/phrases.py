@@ -142,7 +142,6 @@ def _take_repeat(reader, depth):
 
 
 def take_end(reader):
-    """The line at the end of a block or a procedure."""
-    reader.head()
+    """The line at the end of a block or a procedure, which is reached."""
     reader.take_word("end")
     reader.end_line()

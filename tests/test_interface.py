@@ -37,6 +37,24 @@ TOLD = {
         "quantity_of(charter, procedure, expression, day, features, devices, names=())", "steps_of(body)", "readings(charter, name)",
     ),
     "writing": ("write_expression(expression)", "write_procedure(procedure)", "write_charter(charter)"),
+    "reading": ("read_expression(text)", "read_procedure(lines)", "read_charter(lines)"),
+    "booktext": ("write_claim(charter, claim)", "write_book(book)", "read_book(lines)"),
+    "claims": ("is_quantity(thing)", "is_claim(thing)", "value_in(world, quantity)", "is_good(value, G, N)", "is_bad(value, G, N)", "denies(world, claim)"),
+    "books": (
+        "Book(charter)", "Book.enter(day, news)", "Book.moment_of(day)", "Book.in_force(moment=None)", "Book.cut(moment)", "Book.copy()",
+        "Book.of(charter, pairs)", "Book.moments()", "Trial(book)", "tried(book, rows)",
+    ),
+    "rosters": ("stands(book, role, day, moment=None)", "does(book, job, day, moment=None)", "roster(book, moment=None)"),
+    "bookwebs": ("links_of(book, moment=None)", "web_of(book, moment=None)", "bearing(book, moment=None)", "web_without(book, numbers, moment=None)"),
+    "forms": ("Form(terms=(), rest=(0, 1))", "Form.plain()", "Form.of(spot)"),
+    "ends": ("End", "greatest(web, form)", "least(web, form)", "shown(web, form, paper)"),
+    "shadows": ("Shadow(web, x, y)", "Shadow.world_at(point)"),
+    "quantities": ("ends(web, quantity)", "Verdict", "verdict(web, quantity, G, N)"),
+    "runs": ("Run", "Run.evidence(number)", "Run.quantity(number)", "Run.claims()", "Run.questions()"),
+    "slips": (
+        "Slip(charter, procedure, day, features, devices, web, roles=None)", "Slip.own_spots()", "Slip.trace(marks)",
+        "slip_of(book, job, day, features, roles, moment=None)", "enter_run(book, day, run)", "retold(book, job, day, features, roles, moment=None)",
+    ),
 }
 SIGNS = {
     ("worlds", "World"): "getitem len iter contains eq",
@@ -44,6 +62,12 @@ SIGNS = {
     ("units", "Units"): "contains len iter eq",
     ("amounts", "Amount"): "add sub mul floordiv neg eq",
     ("charters", "Charter"): "getitem contains iter len eq",
+    ("books", "Book"): "getitem len iter eq",
+    ("books", "Trial"): "enter exit",
+    ("forms", "Form"): "add sub neg mul eq call",
+    ("shadows", "Shadow"): "len contains",
+    ("quantities", "Verdict"): "bool",
+    ("slips", "Slip"): "call",
 }
 
 
@@ -77,16 +101,22 @@ class Interface(unittest.TestCase):
 
     def test_static_methods_and_class_values(self):
         from ellwarden.amounts import Amount
+        from ellwarden.books import Book
         from ellwarden.charters import Charter
+        from ellwarden.forms import Form
         from ellwarden.units import Units
         self.assertIsInstance(vars(Amount)["bare"], staticmethod)
-        self.assertEqual((Units.MOST, Charter.DAYS, Charter.SPOTS), (12, 20, 240))
+        self.assertIsInstance(vars(Form)["of"], staticmethod)
+        self.assertIsInstance(vars(Book)["of"], classmethod)
+        self.assertEqual((Units.MOST, Charter.DAYS, Charter.SPOTS, Book.MOST), (12, 20, 240, 60))
 
     def test_generators(self):
+        from ellwarden.books import Book
         from ellwarden.expressions import steps_of
+        from ellwarden.slips import Slip
         from ellwarden.webs import Web
-        self.assertTrue(inspect.isgeneratorfunction(steps_of))
-        self.assertTrue(inspect.isgeneratorfunction(Web.links_from))
+        for made in (steps_of, Web.links_from, Book.moments, Slip.trace):
+            self.assertTrue(inspect.isgeneratorfunction(made))
 
 
 if __name__ == "__main__":

@@ -235,6 +235,16 @@ class Language(unittest.TestCase):
                     if isinstance(inner, ast.Attribute) and isinstance(inner.ctx, ast.Store):
                         self.assertNotIn(inner.attr, methods, path)
 
+    def test_no_name_is_a_method_here_and_an_attribute_there(self):
+        methods, attributes = set(), set()
+        for _, tree in trees():
+            for node in ast.walk(tree):
+                if isinstance(node, ast.ClassDef):
+                    methods |= {inner.name for inner in node.body if isinstance(inner, ast.FunctionDef)}
+                if isinstance(node, ast.Attribute) and isinstance(node.ctx, ast.Store):
+                    attributes.add(node.attr)
+        self.assertEqual(methods & attributes, set())
+
     def test_barred_words(self):
         for path in files():
             text = path.read_text()
