@@ -21,16 +21,21 @@ def ends(web, quantity):
     else:
         stops = _corner_stops(outline) + _turning_stops(outline)
         values = [times(scale, times(point[0], point[1])) for point, _, _ in stops]
+    found = []
+    for place in _low_and_high(values):
+        _, rows, weights = stops[place]
+        found.append(End(values[place], outline.frame.blend(rows, weights), None))
+    return tuple(found)
+
+
+def _low_and_high(values):
+    """The places of the least and of the greatest of some ratios."""
     low = 0
     high = 0
     for place, value in enumerate(values):
         low = place if compare(value, values[low]) < 0 else low
         high = place if compare(value, values[high]) > 0 else high
-    found = []
-    for place in (low, high):
-        _, rows, weights = stops[place]
-        found.append(End(values[place], outline.frame.blend(rows, weights), None))
-    return tuple(found)
+    return (low, high)
 
 
 def _corner_stops(outline):
@@ -61,11 +66,7 @@ def _turning_stops(outline):
 
 def _ask_for_divisor(outline):
     """NoQuotient if the second form is 0 in some world."""
-    low = 0
-    high = 0
-    for place, (_, y) in enumerate(outline.points):
-        low = place if compare(y, outline.points[low][1]) < 0 else low
-        high = place if compare(y, outline.points[high][1]) > 0 else high
+    low, high = _low_and_high([y for _, y in outline.points])
     below = outline.points[low][1]
     above = outline.points[high][1]
     if below[0] > 0 or above[0] < 0:

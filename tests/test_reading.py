@@ -4,7 +4,7 @@ import random
 import unittest
 
 from ellwarden.charters import Charter
-from ellwarden.errors import BadCharter, BadLine, BadStep, Ring, TooLong, TooMany, Twice
+from ellwarden.errors import BadCharter, BadStep, Ring, TooLong, TooMany, Twice
 from ellwarden.names import WORDS
 from ellwarden.reading import read_charter, read_expression, read_procedure
 from ellwarden.writing import write_charter, write_expression, write_procedure
