@@ -3,6 +3,7 @@ keep these bounds is greatest in the web, as such values are those of some world
 
 from ellwarden.errors import NoSpot
 from ellwarden.flows import cheapest
+from ellwarden.nets import needed, ways_from
 from ellwarden.ratios import common_below, ratio, times_whole
 from ellwarden.worlds import GROUND, World
 
@@ -17,6 +18,15 @@ class Frame:
         self._web = web
         self._spots = [GROUND, *spots]
         self._bounds = [web.bounds_from(spot, self._spots) for spot in self._spots]
+
+    def slim_bounds(self):
+        """The bounds from which all others follow: triples of two places, the ground being at 0,
+        and the bound from the first one to the second one."""
+        arrows = []
+        for start, row in enumerate(self._bounds):
+            arrows.extend([(start, goal, bound) for goal, bound in enumerate(row) if goal != start])
+        numbers = needed(arrows, ways_from(len(self._spots), arrows), self._bounds[0])
+        return [arrows[number] for number in numbers]
 
     def best(self, needs):
         """The pair of the values of the spots, integers, for which the sum of need times value
@@ -42,9 +52,9 @@ class Frame:
         numbers = [0] * len(self._spots)
         for row, weight in zip(rows, whole):
             numbers = [number + weight * value for number, value in zip(numbers, [0, *row])]
-        return self._world(numbers, sum(whole))
+        return self.world_of(numbers, sum(whole))
 
-    def _world(self, numbers, many):
+    def world_of(self, numbers, many):
         """The world with the greatest values of all other spots, where those of the ground and
         the spots are these numbers, divided by many."""
         spots = self._web.spots

@@ -37,13 +37,19 @@ def reached(arrows, ways):
     return found
 
 
-def heights_and_ring(arrows, ways):
-    """The pair of the least weights of ways from place 0 to each place, and None; if there
-    is a ring of arrows with a weight below 0, the pair of None and its numbers in order."""
-    heights = [None] * len(ways)
+def heights_and_ring(arrows, ways, known=None):
+    """The pair of a height for each place, which no arrow raises by more than its weight, and
+    None; if there is a ring of arrows with a weight below 0, the pair of None and its numbers
+    in order. The heights are the least weights of ways from place 0; known may have heights
+    that keep most arrows, and then they are those that come of lowering these."""
     last = [None] * len(ways)
-    heights[0] = 0
-    active = [0]
+    if known is None:
+        heights = [None] * len(ways)
+        heights[0] = 0
+        active = [0]
+    else:
+        heights = list(known)
+        active = list(range(len(ways)))
     while len(active) > 0:
         lowered = {}
         for place in active:
@@ -117,3 +123,34 @@ def way(arrows, last, start, goal):
     if start == goal:
         return []
     return _followed_back(arrows, last, start, goal)
+
+
+def needed(arrows, ways, heights):
+    """The numbers of the arrows that stay when, one by one in their order, each one is left out
+    for which a way of those that are still there does not weigh more."""
+    there = [True] * len(arrows)
+    for number, arrow in enumerate(arrows):
+        there[number] = False
+        there[number] = not _has_way(arrows, ways, there, heights, arrow)
+    return [number for number, stays in enumerate(there) if stays]
+
+
+def _has_way(arrows, ways, there, heights, arrow):
+    """Whether a way of the arrows that are there leads where an arrow leads, and does not weigh
+    more."""
+    start, goal, most = arrow
+    # As in nearest, no step is below 0, so that what is beyond the limit stays there.
+    limit = most + heights[start] - heights[goal]
+    best = {start: 0}
+    queue = [(0, start)]
+    while len(queue) > 0:
+        cost, place = heappop(queue)
+        if place == goal:
+            return True
+        for number in ways[place]:
+            _, further, weight = arrows[number]
+            total = cost + weight + heights[place] - heights[further]
+            if there[number] and total <= limit and (further not in best or total < best[further]):
+                best[further] = total
+                heappush(queue, (total, further))
+    return False

@@ -90,13 +90,8 @@ class Units:
         """The units with grains of the base that are so many times finer."""
         if base not in self.bases:
             raise Unknown(base)
-        at = self.bases.index(base)
-        table = []
-        for name, dimension, factor in self.table:
-            longer = times(factor, power(ratio(many), dimension[at]))
-            table.append((name, dimension, longer))
         # A factor that has become too long is refused where it stands in the table.
-        return Units(self.bases, table)
+        return Units(self.bases, finer_table(self.table, self.bases.index(base), many))
 
     def _take(self, name, dimension, factor):
         if name in self._units:
@@ -118,6 +113,11 @@ class Units:
         if not is_dimension(tuple(whole), len(whole)):
             raise BadUnit(text)
         return (tuple(whole), factor)
+
+
+def finer_table(table, at, many):
+    """A table of units with grains of the base at a place that are so many times finer."""
+    return [(name, dimension, times(factor, power(ratio(many), dimension[at]))) for name, dimension, factor in table]
 
 
 def _are_bases(thing):

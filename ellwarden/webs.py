@@ -11,13 +11,15 @@ class Web:
 
     def __init__(self, spots, links):
         self.spots = tuple(spots)
-        self._places = _places_of(self.spots)
+        self._places = places_of(self.spots)
         self.links = tuple(links)
         _judge_links(self.links, self._places)
-        self._arrows = [(self._places[link[0]], self._places[link[1]], link[2]) for link in self.links]
+        self._arrows = arrows_of(self.links, self._places)
         self._ways = ways_from(len(self.spots), self._arrows)
         _judge_chains(self.spots, self._arrows, self._ways)
+        # Values of some world, once they are known, and values that keep all but a few links.
         self._heights = None
+        self._near = None
         self._ring = None
         self._found = {}
 
@@ -60,15 +62,14 @@ class Web:
     def bad_ring(self):
         """A ring with a bound below 0, or None if there is a world."""
         if self._heights is None and self._ring is None:
-            heights, numbers = heights_and_ring(self._arrows, self._ways)
+            heights, numbers = heights_and_ring(self._arrows, self._ways, self._near)
             self._heights = heights
             self._ring = None if numbers is None else self._links_at(numbers)
         return self._ring
 
     def highest(self):
         """The world with the greatest value of each spot."""
-        self.ask_for_world()
-        return self._world(self._heights)
+        return self.reaching(GROUND, GROUND)
 
     def lowest(self):
         """The world with the least value of each spot."""
@@ -88,7 +89,26 @@ class Web:
         """The web with these links behind its own."""
         new = tuple(links)
         _judge_links(new, self._places)
-        return Web(self.spots, self.links + new)
+        made = self._with_links(self.links + new)
+        made._near = self._near if self._heights is None else self._heights
+        return made
+
+    def without(self, whys):
+        """The web without the links that have one of these whys; they must leave no spot loose."""
+        made = self._with_links(tuple([link for link in self.links if link[3] not in whys]))
+        made._heights = self._heights
+        made._near = self._near
+        return made
+
+    def _with_links(self, links):
+        """A web with these links, which were judged and leave no spot loose."""
+        made = Web((GROUND,), ())
+        made.spots = self.spots
+        made._places = self._places
+        made.links = links
+        made._arrows = arrows_of(links, self._places)
+        made._ways = ways_from(len(self.spots), made._arrows)
+        return made
 
     def links_from(self, spot):
         """The links that begin at the spot, in order."""
@@ -131,7 +151,12 @@ class Web:
         return World([(spot, (value, 1)) for spot, value in zip(self.spots, values)])
 
 
-def _places_of(spots):
+def arrows_of(links, places):
+    """The links as arrows between the places of their spots."""
+    return [(places[a], places[b], bound) for a, b, bound, _ in links]
+
+
+def places_of(spots):
     """The dict of the places of the spots, judged one by one."""
     if len(spots) == 0:
         raise BadSpot(0)

@@ -12,6 +12,7 @@ BAD = {
     "name": NO_NAME,
     "integer": NO_INTEGER,
     "number": NO_INTEGER + ("-1", "-12"),
+    "many": NO_INTEGER + ("-1", "-12", "0"),
     "ratio": NO_RATIO,
     "dimension": NO_DIMENSION,
     "text": ("",),

@@ -1,0 +1,75 @@
+"""Tables of the bounds between places, on plain integers: a row for each place, with the bounds
+from it to all places. A table is closed if the bound from each place to itself is 0, and no bound
+is above the sum of those by way of another place."""
+
+
+def is_closed(table):
+    """Whether no bound of a table is above the sum of those by way of another place."""
+    for row in table:
+        for bound, further in zip(row, table):
+            if any([far > bound + near for far, near in zip(row, further)]):
+                return False
+    return True
+
+
+def lowered(table, start, goal, bound):
+    """The closed table that comes of a closed one if this bound from start to goal is put in,
+    with which some values are left."""
+    further = [bound + near for near in table[goal]]
+    return [_by_way(row, row[start], further) for row in table]
+
+
+def joined_tables(first, second, places):
+    """The closed table that comes of two closed ones together; None if no values keep both. For
+    each place of the second one places tells which it is in the first one, or behind that;
+    place 0 is the same in both."""
+    table = _side_by_side(first, second, places)
+    for middle in _joints(first, second, places):
+        further = table[middle]
+        table = [_by_way(row, row[middle], further) for row in table]
+        if any([row[place] < 0 for place, row in enumerate(table)]):
+            return None
+    return table
+
+
+def _by_way(row, step, further):
+    """The bounds of a row, each at most that by way of the place to which step leads."""
+    return [bound if bound <= step + far else step + far for bound, far in zip(row, further)]
+
+
+def _side_by_side(first, second, places):
+    """For each two places the least bound that is told; if none is, that by way of place 0."""
+    back = {}
+    for at, place in enumerate(places):
+        back[place] = at
+    many = len(first) + len([place for place in places if place >= len(first)])
+    return [[_least_told(first, second, back, a, b) for b in range(many)] for a in range(many)]
+
+
+def _least_told(first, second, back, a, b):
+    many = len(first)
+    bounds = []
+    if a < many and b < many:
+        bounds.append(first[a][b])
+    if a in back and b in back:
+        bounds.append(second[back[a]][back[b]])
+    if len(bounds) > 0:
+        return min(bounds)
+    if a < many:
+        return first[a][0] + second[0][back[b]]
+    return second[back[a]][0] + first[0][b]
+
+
+def _joints(first, second, places):
+    """The places of both tables by way of which bounds can become less: between two of them a
+    bound of the one table follows one of the other."""
+    both = [place for place in places if place < len(first)]
+    if len(both) < len(places):
+        return both
+    ends = {}
+    for start, row in zip(places, second):
+        for goal, bound in zip(places, row):
+            if bound < first[start][goal]:
+                ends[start] = True
+                ends[goal] = True
+    return list(ends)
