@@ -87,10 +87,16 @@ class Member:
 
 
 class Status:
-    """What changes in a league: it is exchanged as a whole, and never changes itself. latest has
-    the numbers of the letters that are kept, by the pairs (receiver, sender)."""
+    """What changes in a league: it is exchanged as a whole. latest has the numbers of the letters
+    that are kept, by the pairs (receiver, sender); drafts has the cards that would be sent now,
+    by the pairs (sender, receiver), as far as they were asked for."""
 
-    def __init__(self, members, letters, latest):
+    def __init__(self, members, letters, latest, drafts):
         self.members = members
         self.letters = letters
         self.latest = latest
+        self.drafts = drafts
+
+    def drafts_beside(self, house):
+        """The drafts that stay when a house knows something else."""
+        return {tie: self.drafts[tie] for tie in self.drafts if tie[0] != house}

@@ -19,7 +19,7 @@ class League:
         for house, book in books.items():
             charters = [books[name].charter for name in self._tied_to(house)]
             members[house] = Member(book.copy(), shared_spots(book.charter, charters))
-        self._status = Status(members, (), {})
+        self._status = Status(members, (), {}, {})
 
     def __len__(self):
         return len(self._status.letters)
@@ -33,8 +33,8 @@ class League:
         book = self.book_of(house)
         number = book.enter(day, news)
         status = self._status
-        member = Member(book, status.members[house].spots)
-        self._status = Status({**status.members, house: member}, status.letters, status.latest)
+        members = {**status.members, house: Member(book, status.members[house].spots)}
+        self._status = Status(members, status.letters, status.latest, status.drafts_beside(house))
         return number
 
     def neighbours(self, house):
@@ -55,22 +55,17 @@ class League:
     def outgoing(self, sender, receiver):
         """The card that a house would send now."""
         spots = self.shared(sender, receiver)
-        # The ways within the cards of letters are through shared spots alone, so that the web
-        # of all that is known, which can be a large one, need not be looked through.
-        try:
-            card = self._status.members[sender].own_card()
-            for letter in self._letters_of(sender, receiver):
-                card = card & letter[2]
-        except Clash:
-            raise Clash(self._web_without(sender, receiver).bad_ring()) from None
-        return card.cut(spots)
+        drafts = self._status.drafts
+        if (sender, receiver) not in drafts:
+            drafts[sender, receiver] = self._known_card(sender, receiver).cut(spots)
+        return drafts[sender, receiver]
 
     def send(self, sender, receiver):
         """Sends a letter; its number."""
         card = self.outgoing(sender, receiver)
         status = self._status
         letter = (sender, receiver, card, self._horizon(sender, receiver))
-        self._status = Status(status.members, status.letters + (letter,), status.latest)
+        self._status = Status(status.members, status.letters + (letter,), status.latest, status.drafts)
         return len(status.letters)
 
     def deliver(self, number):
@@ -82,7 +77,7 @@ class League:
         status = self._status
         latest = {pair: status.latest[pair] for pair in status.latest}
         latest[receiver, sender] = number
-        self._status = Status(status.members, status.letters, latest)
+        self._status = Status(status.members, status.letters, latest, status.drafts_beside(receiver))
         return True
 
     def letter(self, number):
@@ -124,6 +119,19 @@ class League:
         out."""
         numbers = [self.kept(house, name) for name in self._tied_to(house) if name != left_out]
         return [self._status.letters[number] for number in numbers if number is not None]
+
+    def _known_card(self, house, left_out):
+        """The card of what a house knows, without the letter of one sender, for all spots that it
+        shares; Clash."""
+        # Letters tell of shared spots alone. So the card of the book for these meets their cards,
+        # and the web of all that is known, which can be a large one, is not looked through.
+        try:
+            card = self._status.members[house].own_card()
+            for letter in self._letters_of(house, left_out):
+                card = card & letter[2]
+        except Clash:
+            raise Clash(self._web_without(house, left_out).bad_ring()) from None
+        return card
 
     def _web_without(self, house, left_out):
         """The web of what a house knows, without the letter of one sender."""

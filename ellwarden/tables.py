@@ -39,25 +39,24 @@ def _by_way(row, step, further):
 
 def _side_by_side(first, second, places):
     """For each two places the least bound that is told; if none is, that by way of place 0."""
-    back = {}
-    for at, place in enumerate(places):
-        back[place] = at
-    many = len(first) + len([place for place in places if place >= len(first)])
-    return [[_least_told(first, second, back, a, b) for b in range(many)] for a in range(many)]
-
-
-def _least_told(first, second, back, a, b):
     many = len(first)
-    bounds = []
-    if a < many and b < many:
-        bounds.append(first[a][b])
-    if a in back and b in back:
-        bounds.append(second[back[a]][back[b]])
-    if len(bounds) > 0:
-        return min(bounds)
-    if a < many:
-        return first[a][0] + second[0][back[b]]
-    return second[back[a]][0] + first[0][b]
+    new = [at for at, place in enumerate(places) if place >= many]
+    away = list(first[0]) + [second[0][at] for at in new]
+    back = [row[0] for row in first] + [second[at][0] for at in new]
+    table = [list(row) + [step + far for far in away[many:]] for row, step in zip(first, back)]
+    table.extend([[step + far for far in away] for step in back[many:]])
+    for start, row in zip(places, second):
+        table[start] = _with_least(table[start], row, places)
+    return table
+
+
+def _with_least(row, bounds, places):
+    """A row with the lesser ones of its bounds and of others, which are those to some places."""
+    found = list(row)
+    for place, bound in zip(places, bounds):
+        if bound < found[place]:
+            found[place] = bound
+    return found
 
 
 def _joints(first, second, places):
