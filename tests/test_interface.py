@@ -2,7 +2,11 @@
 
 import importlib
 import inspect
+import re
 import unittest
+from pathlib import Path
+
+DOCUMENT = Path(__file__).resolve().parent.parent.parent / "shared" / "DOC.md"
 
 TOLD = {
     "names": ("WORDS", "is_name(thing)"),
@@ -55,6 +59,28 @@ TOLD = {
         "Slip(charter, procedure, day, features, devices, web, roles=None)", "Slip.own_spots()", "Slip.trace(marks)",
         "slip_of(book, job, day, features, roles, moment=None)", "enter_run(book, day, run)", "retold(book, job, day, features, roles, moment=None)",
     ),
+    "cardtext": ("write_card(card)", "read_card(lines)"),
+    "pieces": ("pieces(web)", "put_together(web, worlds)", "follows(web, link)", "slim(web)"),
+    "cards": ("Card(spots, rows)", "Card.cut(spots)", "Card.entered(a, b, bound)", "Card.as_web()", "card_of(web, spots)", "pressed(slip)"),
+    "parting": ("parted(card, other)", "parter(charter, card, other)"),
+    "leagues": (
+        "League(houses, ties=())", "League.book_of(house)", "League.enter(house, day, news)", "League.neighbours(house)", "League.shared(sender, receiver)",
+        "League.knows(house)", "League.send(sender, receiver)", "League.deliver(number)", "League.letter(number)", "League.kept(receiver, sender)",
+        "League.horizon(house)", "League.copy()", "Held(league)", "attempted(league, deeds)",
+    ),
+    "settling": ("joined(league, moments)", "stale(league)", "settle(league)", "denied(league, house)"),
+    "standing": ("denying(web, claim)", "state(book, number, moment=None)", "history(book, number)", "blame(book, number)", "Fallen(book, moment=None)"),
+    "grounds": (
+        "bears(book, numbers, claim, moment=None)", "grounds(book, claim, moment=None)", "ground(book, claim, moment=None)", "leaning(book, claim, moment=None)",
+        "felling(book, claim, moment=None)", "doubts(book, moment=None)",
+    ),
+    "charts": ("chart_of(slip)", "behind(chart, marks)", "parting_marks(chart, other)", "pruned(chart)", "kept_marks(chart, marks)", "danger(slip)"),
+    "probes": (
+        "settles(web, questions, probes)", "pair(web, question, probes)", "paper(web, question, probes)", "judge_paper(web, question, probes, paper)",
+        "fewest(web, questions, probes)",
+    ),
+    "plans": ("plan(charter, web, day, question, menu, *, most)", "answer(charter, web, day, question, menu, *, most)"),
+    "grains": ("finer_charter(charter, base, many)", "finer(book, base, many)"),
 }
 SIGNS = {
     ("worlds", "World"): "getitem len iter contains eq",
@@ -68,7 +94,13 @@ SIGNS = {
     ("shadows", "Shadow"): "len contains",
     ("quantities", "Verdict"): "bool",
     ("slips", "Slip"): "call",
+    ("cards", "Card"): "getitem len iter contains eq and",
+    ("leagues", "League"): "len",
+    ("leagues", "Held"): "enter exit",
+    ("standing", "Fallen"): "iter contains len bool",
 }
+HEADING = re.compile(r"## ellwarden/([a-z]+)[.]py")
+CALL = re.compile(r"`([a-z_]+[(][^`]*[)])`")
 
 
 class Interface(unittest.TestCase):
@@ -92,6 +124,20 @@ class Interface(unittest.TestCase):
         if is_method and rows and rows[0].name == "self":
             rows = rows[1:]
         return str(told.replace(parameters=rows))
+
+    @unittest.skipUnless(DOCUMENT.exists(), "the document is not at hand")
+    def test_each_call_in_the_document_is_told_here(self):
+        text = DOCUMENT.read_text()
+        parts = HEADING.split(text[text.index("# The interface"):])
+        for file, told in zip(parts[1::2], parts[2::2]):
+            if file == "errors":
+                continue
+            names = {entry.partition("(")[0].split(".")[-1] for entry in TOLD[file]}
+            for call in CALL.findall(told):
+                word = call.partition("(")[0]
+                if word not in ("len", "form", "slip"):
+                    self.assertIn(word, names, file)
+        self.assertEqual(set(parts[1::2]), set(TOLD) | {"errors"})
 
     def test_signs(self):
         for (file, name), words in SIGNS.items():
