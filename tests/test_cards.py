@@ -5,7 +5,6 @@ import time
 import unittest
 
 from ellwarden.cards import Card, card_of
-from ellwarden.claims import denies
 from ellwarden.errors import BadCard, Clash, NoSpot
 from ellwarden.charters import Charter
 from ellwarden.forms import Form
@@ -16,7 +15,7 @@ from ellwarden.standing import denying
 from ellwarden.webs import Web
 from ellwarden.worlds import GROUND, World
 from brute import corners
-from samples import STRANGE, device, feature, ratios, swapped
+from samples import STRANGE, device, feature, swapped
 from test_ends import BROKEN, some_form, web_with_a_world
 from test_webs import WebCase, all_bounds, random_web, tied
 

@@ -14,7 +14,7 @@ from ellwarden.slips import Slip, slip_of
 from ellwarden.webs import Web
 from ellwarden.worlds import GROUND
 from samples import STRANGE, device, feature, grains, house, procedure, sized
-from test_runs import BEAT, ONE, READ, STOP, TWO, RunCase, certified, choose, judge, tell
+from test_runs import ONE, READ, STOP, TWO, RunCase, choose, judge, tell
 
 CLASH = ("clash",)
 BORE, SLOT = ("read", "bore", "dial"), ("read", "slot", "dial")

@@ -15,7 +15,6 @@ from ellwarden.grounds import doubts, felling, grounds, leaning
 from ellwarden.ratios import ratio, times
 from ellwarden.slips import enter_run, retold, slip_of
 from ellwarden.standing import Fallen, history
-from ellwarden.webs import Web
 from ellwarden.worlds import GROUND, World
 from samples import STRANGE, Case, charter, device, feature, house, keeper, procedure, ratios, sized, spot_form, swapped
 

@@ -13,7 +13,7 @@ from ellwarden.settling import joined, settle
 from ellwarden.webs import Web
 from ellwarden.worlds import GROUND
 from leaguesamples import (
-    ANNA, BERT, BORE, CERT, CORA, DIAL, NUT, PAIRS, PEG, RING, RULE, SLOT, TIES, card_now, charter, enter_some, known_without, random_league, some_deeds, state_of, three,
+    ANNA, BERT, BORE, CERT, CORA, DIAL, PAIRS, PEG, RING, RULE, SLOT, TIES, card_now, charter, enter_some, known_without, random_league, some_deeds, state_of, three,
 )
 from samples import STRANGE, device, feature, swapped
 from test_webs import WebCase

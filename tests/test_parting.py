@@ -18,7 +18,6 @@ from ellwarden.writing import write_charter
 from samples import FIRST, device, feature, grains, house, keeper, procedure, sized
 from test_cards import CardCase
 from test_ends import web_with_a_world
-from test_webs import tied
 
 A, B, C = ("a", 0, 0), ("b", 1, 2), ("c", 0, 0)
 CARD = Card((GROUND, A, B), ((0, 9, 4), (-2, 0, 2), (3, 5, 0)))

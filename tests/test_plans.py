@@ -1,6 +1,5 @@
 """[47] plans of readings, and answers to all plans."""
 
-import itertools
 import random
 import time
 import unittest

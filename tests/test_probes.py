@@ -17,9 +17,9 @@ from ellwarden.ratios import minus
 from ellwarden.webs import Web
 from ellwarden.worlds import GROUND
 from brute import fraction, told
-from samples import STRANGE, device, feature, ratios, spot_form, swapped
+from samples import STRANGE, device, feature, spot_form, swapped
 from test_ends import BROKEN, some_form, web_with_a_world
-from test_webs import WebCase, random_web, tied
+from test_webs import WebCase, tied
 
 A, B, C, Z = ("a", 0, 0), ("b", 0, 0), ("c", 0, 0), ("z", 0, 0)
 # a from 0 to 10, b from 0 to 10 and at most 3 away from a.

@@ -14,7 +14,7 @@ from ellwarden.settling import denied, joined, settle, stale
 from ellwarden.standing import Fallen, denying
 from ellwarden.webs import Web
 from ellwarden.worlds import GROUND
-from leaguesamples import ANNA, BERT, BORE, CERT, CORA, DIAL, PAIRS, PEG, TIES, card_now, charter, enter_some, known_without, random_league, some_deeds, state_of, three
+from leaguesamples import BORE, CERT, DIAL, PAIRS, PEG, card_now, charter, enter_some, known_without, random_league, some_deeds, state_of, three
 from samples import STRANGE, feature, spot_form
 from test_webs import WebCase
 

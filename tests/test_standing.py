@@ -15,7 +15,7 @@ from ellwarden.worlds import GROUND, World
 from brute import corners
 from samples import STRANGE, device, feature, keeper, ratios, spot_form
 from test_ends import BROKEN, web_with_a_world
-from test_webs import WebCase, random_web, tied
+from test_webs import WebCase, tied
 
 A, B, C = ("a", 0, 0), ("b", 0, 0), ("c", 0, 0)
 # a from 2 to 9, b from -3 to 4.
