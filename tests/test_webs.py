@@ -435,6 +435,40 @@ class Joining(WebCase):
         self.assertEqual(web.more([]), web)
         self.assertEqual(web.more(()), web)
 
+    def same(self, web):
+        """It says what a web says that is made of its spots and links anew."""
+        plain = Web(web.spots, web.links)
+        self.assertEqual(web, plain)
+        self.assertEqual(web.bad_ring() is None, plain.bad_ring() is None)
+        if plain.bad_ring() is not None:
+            self.is_ring(web, web.bad_ring())
+            return
+        bounds = all_bounds(plain)
+        for a, b in bounds:
+            self.assertEqual(web.bound(a, b), bounds[a, b])
+            self.is_world(web, web.reaching(a, b))
+            self.assertEqual(self.is_chain(web, web.chain(a, b), a, b), bounds[a, b])
+        self.assertEqual((web.highest(), web.lowest()), (plain.highest(), plain.lowest()))
+
+    def test_more_and_fewer_links_of_webs_that_were_asked_before(self):
+        rng = random.Random(15)
+        for _ in range(250):
+            web = random_web(rng, rng.randint(1, 5), 6)
+            for number in range(rng.randint(1, 3)):
+                if rng.random() < 0.6:
+                    web.bad_ring()
+                links = []
+                for _ in range(rng.randint(0, 3)):
+                    a, b = rng.sample(web.spots, 2)
+                    links.append((a, b, rng.randint(-9, 20), ("mark", number)))
+                web = web.more(links)
+            self.same(web)
+            for whys in ([("mark", 0)], [("mark", 1), ("mark", 2)], []):
+                less = web.without(whys)
+                self.assertEqual(less.links, tuple(link for link in web.links if link[3] not in whys))
+                self.same(less)
+                self.same(less.more([(web.spots[1], GROUND, rng.randint(-20, 20), ("mark", 3))]))
+
     def test_sum(self):
         one = Web([GROUND, A, B], tied(A, 0, 10) + tied(B, 0, 9))
         two = Web([GROUND, C, B, ("d", 0, 0)], tied(C, 1, 2) + tied(B, 3, 30) + tied(("d", 0, 0), 0, 0))
