@@ -24,9 +24,10 @@ class Sheet:
         if run.kind == "asks":
             feature, name = run.asked
             device = slip.charter[name]
-            row = range(device[LOW], device[HIGH] + 1)
-            charts = [(mark, mark, self.chart_behind(marks + (mark,))) for mark in row]
-            return ("read", feature, name, joined_spans(charts))
+            spans = []
+            for mark in range(device[LOW], device[HIGH] + 1):
+                spans.append((mark, mark, self.chart_behind(marks + (mark,))))
+            return ("read", feature, name, joined_spans(spans))
         self._rows += 1
         if self._rows > MOST:
             raise TooMany("mark")

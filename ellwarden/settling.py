@@ -47,7 +47,7 @@ def denied(league, house):
     """The tellings in force in the book of a house that a world of what it knows denies."""
     book = league.book_of(house)
     worlds = fallen_in(league.knows(house), book)
-    return tuple(list(worlds.items()))
+    return tuple(worlds.items())
 
 
 def _directions(league):
