@@ -49,7 +49,6 @@ class League:
 
     def knows(self, house):
         """The web of what a house knows."""
-        self._ask_for_house(house)
         return self._web_without(house, None)
 
     def outgoing(self, sender, receiver):
@@ -94,7 +93,6 @@ class League:
 
     def horizon(self, house):
         """For each house the moment up to which its news is in what a house knows, or None."""
-        self._ask_for_house(house)
         return self._horizon(house, None)
 
     def copy(self):
@@ -153,7 +151,6 @@ class League:
             raise NoHouse(house)
 
     def _ask_for_tie(self, sender, receiver):
-        self._ask_for_house(sender)
         if receiver not in self.neighbours(sender):
             self._ask_for_house(receiver)
             raise NoTie(sender, receiver)

@@ -350,7 +350,7 @@ class Parting(ChartCase):
 
 class Pruning(ChartCase):
     def test_charts_without_needless_readings(self):
-        for chart in (A, CLASH, read((0, 4, A), (5, 9, B)), read((0, 4, A), (5, 6, CLASH), (7, 9, B)), DEEP[3][2][2]):
+        for chart in (A, CLASH, read((0, 4, A), (5, 9, B)), read((0, 4, A), (5, 6, CLASH), (7, 9, B)), DEEP[3][2][2], read((0, 9, CLASH))):
             self.assertEqual(pruned(chart), chart)
 
     def test_needless_readings(self):

@@ -275,6 +275,18 @@ class Judging(ProbeCase):
             for number in (0, 1, (0, 1), (-many[0], many[1]), (many[0] * 2, many[1] * 2), [*many], (True, 1), (1, True), (1, 0), (1.0, 1), "1", None, (many[0], -many[1])):
                 self.refused(swapped(self.paper, place, (number, item)))
 
+    def test_multipliers_that_are_not_above_0(self):
+        # Their sums are those of a paper; still they are none.
+        for item in (("good", WEB.links[4]), ("bad", WEB.links[0]), ("probe", 0, 1), ("limit", "good")):
+            self.refused(self.paper + (((0, 1), item),), self.paper + (((-1, 1), item), ((1, 1), item)), self.paper + (((2, 1), item), ((-2, 1), item)))
+        for place, (many, item) in enumerate(self.paper):
+            double = (told(fraction(many) * 2), item)
+            self.refused(swapped(self.paper, place, double) + ((told(-fraction(many)), item),))
+        # A probe told twice as much, half as often.
+        for place, (many, item) in enumerate(self.paper):
+            if item[0] == "probe":
+                self.refused(swapped(self.paper, place, (told(fraction(many) / 2), ("probe", item[1], 2 * item[2]))))
+
     def test_items(self):
         long = Judging.long_paper(self)
         for web, asked, probes, row in ((WEB, self.ASKED, self.PROBES, self.paper), long):
@@ -366,6 +378,11 @@ class Fewest(ProbeCase):
         self.assertEqual(self.fewest(WEB, [question(spot_form(B, (A, (-1, 1))), -2, 2)], [exact, other, (A, B, 1), rough]), (2,))
         self.assertIs(type(fewest(WEB, [LOW], [exact])), tuple)
 
+    def test_probes_that_are_rough_and_still_settle(self):
+        for good, bad in ((0, 9), (1, 10), (10, 1), (9, 0)):
+            for probe in ((GROUND, A, 4), (A, GROUND, 4)):
+                self.assertEqual(self.fewest(WEB, [question(spot_form(A), good, bad)], [(GROUND, B, 4), probe, probe]), (1,))
+
     def test_one_with_more_slack_is_not_better(self):
         # Two rough ones tell what one does not.
         web = Web([GROUND, A, B], tied(A, 0, 10) + tied(B, 0, 10))
@@ -375,8 +392,8 @@ class Fewest(ProbeCase):
     def test_random_webs(self):
         rng = random.Random(49)
         lengths = {}
-        for _ in range(40):
-            web = web_with_a_world(rng, 4, 5)
+        for _ in range(150):
+            web = web_with_a_world(rng, 3, 4)
             questions = [open_question(rng, web, rng.randint(1, 2)) for _ in range(rng.choice((1, 1, 2, 4)))]
             probes = []
             for number in range(rng.randint(3, 6)):
